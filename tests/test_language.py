@@ -156,6 +156,27 @@ class Language(unittest.TestCase):
                     self.assertTrue(isinstance(right, ast.Constant) and right.value in (None, True, False), name)
         self.assert_none((name, node) for name, node in nodes(ast.Constant)
                          if isinstance(node.value, str) and "%" in node.value)
+        self.assert_none((name, node) for name, node in nodes(ast.FormattedValue)
+                         if not isinstance(node.value, ast.Name) or node.format_spec)
+
+    def test_errors_are_made_where_they_are_raised(self):
+        self.assert_none((name, node) for name, node in nodes(ast.Raise)
+                         if not isinstance(node.exc, ast.Call) or not isinstance(node.exc.func, ast.Name)
+                         or not node.exc.func.id[0].isupper())
+
+    def test_lists_and_dicts_of_a_top_are_only_read(self):
+        for path in files():
+            tree = ast.parse(path.read_text("ascii"))
+            kept = [name for top in tree.body if isinstance(top, ast.Assign) for name in bound_names(top.targets[0])]
+            read = []
+            for node in ast.walk(tree):
+                if isinstance(node, ast.Subscript) and isinstance(node.ctx, ast.Load):
+                    read.append(node.value)
+                if isinstance(node, ast.Compare):
+                    read.extend(node.comparators)
+            self.assert_none((path.name, node) for node in ast.walk(tree)
+                             if isinstance(node, ast.Name) and isinstance(node.ctx, ast.Load)
+                             and node.id in kept and node not in read)
 
 
 if __name__ == "__main__":
